@@ -1,0 +1,1 @@
+"""Barewire: words told by one line without a clock."""
