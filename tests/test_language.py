@@ -82,6 +82,16 @@ class Language(unittest.TestCase):
             allowed = re.compile(r"^(__[a-z]+__|[A-Za-z][A-Za-z0-9_]*)$")
             self.assertEqual([word for word in bound if not allowed.match(word)], [], name)
 
+    def test_no_name_is_a_method_here_and_an_attribute_there(self):
+        methods, attributes = set(), set()
+        for tree in self.trees.values():
+            for node in ast.walk(tree):
+                if isinstance(node, ast.ClassDef):
+                    methods |= {part.name for part in node.body if isinstance(part, ast.FunctionDef)}
+                if isinstance(node, ast.Attribute) and not isinstance(node.ctx, ast.Load):
+                    attributes.add(node.attr)
+        self.assertEqual(methods & attributes, set())
+
 
 if __name__ == "__main__":
     unittest.main()
