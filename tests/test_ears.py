@@ -5,12 +5,13 @@ import itertools
 import random
 import unittest
 
+from by_words import CHECKS, drawn_out, hear_by_words
+
 from barewire.beats import row_by, struck
 from barewire.ears import Listener, asked_of, hear, is_ear, reach
-from barewire.forms import levels_of, outcome, size_of
+from barewire.forms import levels_of, size_of
 from barewire.lines import line_of
 
-CHECKS = ("none", "even", "odd")
 SMALL = [(bits, check) for bits in (2, 3, 5) for check in CHECKS]
 EARS = [(3, 1, 0), (3, 2, 0), (4, 2, 1), (5, 2, 0), (5, 3, 1), (8, 4, 3), (16, 8, 1), (9, 3, 2), (9, 6, 2)]
 
@@ -23,33 +24,6 @@ NO_EARS = (
     True, False, None, 0, 16, -1, 10 ** 5000, "", "16 8 1", "abc", "(16, 8, 1)",
     (10 ** 5000, 8, 1), (16, 10 ** 5000, 1), (16, 8, 10 ** 5000), (-16, -8, -1), (16, -8, 1), (16, 8, -10 ** 5000),
 )
-
-
-def hear_by_place(form, ear, row):
-    """By the words of point 13, going back and forth in the whole row."""
-    over, spot, beside = ear
-    told, at, ahead = [], 0, 1
-
-    def take(begin, level):
-        asked = [row[begin + level * over + spot + by] for by in range(-beside, beside + 1)]
-        return max((0, 1), key=asked.count)
-
-    while at < len(row):
-        begins = row[at] == 0 and ahead == 1
-        last = at + (size_of(form) - 1) * over + spot + beside
-        if not begins:
-            ahead, at = row[at], at + 1
-        elif at + spot + beside >= len(row):
-            return told, at
-        elif take(at, 0) == 1:
-            ahead, at = row[at], at + 1
-        elif last >= len(row):
-            return told, at
-        else:
-            levels = [take(at, k) for k in range(size_of(form))]
-            told.append((at, outcome(form, levels)))
-            ahead, at = levels[-1], last + 1
-    return told, None
 
 
 def some_rows(source, over):
@@ -122,17 +96,12 @@ class Asked(unittest.TestCase):
                 self.assertEqual(reach(form, ear), max(asked))
 
 
-def drawn_out(levels, over):
-    """Each level as many beats long as the ear takes it to be."""
-    return [level for level in levels for beat in range(over)]
-
-
 class Hear(unittest.TestCase):
-    def same_as_by_place(self, form, ear, row):
+    def same_as_by_words(self, form, ear, row):
         kept = list(row)
         told = hear(form, ear, row)
         self.assertIs(type(told), tuple)
-        self.assertTrue(told == hear_by_place(form, ear, row), (form, ear, row))
+        self.assertTrue(told == hear_by_words(form, ear, row), (form, ear, row))
         self.assertTrue(row == kept)
 
     def test_the_empty_row_and_rests(self):
@@ -163,7 +132,7 @@ class Hear(unittest.TestCase):
                     due.append((len(row), ("word", word)))
                     row += drawn_out(levels_of(form, word), ear[0])
                 self.assertEqual(hear(form, ear, row), (due, None))
-                self.same_as_by_place(form, ear, row)
+                self.same_as_by_words(form, ear, row)
 
     def test_beats_some_off(self):
         # Ears of 16 beats a level, the rate a little off and the first beat anywhere.
@@ -176,14 +145,14 @@ class Hear(unittest.TestCase):
             self.assertEqual([heard[1] for heard in told], [("word", 0), ("word", 255), ("word", 0b1010101)])
             self.assertEqual([heard[0] for heard in told], [-((first - begin) // 100) for begin, word in speech])
             self.assertIsNone(begun)
-            self.same_as_by_place(form, ear, row)
+            self.same_as_by_words(form, ear, row)
 
     def test_a_rate_far_off(self):
         for form in SMALL:
             for ear in EARS:
                 for rate in (ear[0] // 2 + 1, ear[0] - 1, ear[0] + 1, 2 * ear[0]):
                     speech = [(k * 31 * rate, 1 << k) for k in range(form[0])]
-                    self.same_as_by_place(form, ear, row_by(line_of(form, rate, speech), (0, 1), 400))
+                    self.same_as_by_words(form, ear, row_by(line_of(form, rate, speech), (0, 1), 400))
 
     def test_a_stretch_of_0(self):
         # All levels are taken as 0, the last one too: so the ear waits for a 1 and a 0 before it begins anew.
@@ -256,7 +225,7 @@ class Hear(unittest.TestCase):
                          [None, 0, 0, 0, 0, 0, 0, 0, 2, 2, 4, 4, None, None])
         self.assertEqual(hear(form, ear, row), ([], None))
         row = [0, 1, 0, 1, 0, 1, 1, 1, 0, 1] + drawn_out([0, 1, 0, 1], 9)
-        self.same_as_by_place(form, ear, row)
+        self.same_as_by_words(form, ear, row)
         self.assertEqual(hear(form, ear, row[:9]), ([], 2))
         self.assertEqual(hear(form, ear, row[:10]), ([], 4))
         self.assertEqual(hear((2, "none"), (3, 1, 0), [0, 1] * 50), ([], None))
@@ -283,26 +252,26 @@ class Hear(unittest.TestCase):
                 for strikes in itertools.combinations(asked, ear[2] + 1):
                     told = hear(form, ear, struck(row, strikes))
                     self.assertNotEqual(told[0], [(4, ("word", 5))])
-                    self.assertEqual(told, hear_by_place(form, ear, struck(row, strikes)))
+                    self.assertEqual(told, hear_by_words(form, ear, struck(row, strikes)))
 
     def test_every_short_row(self):
         for form, ear in (((2, "none"), (3, 1, 0)), ((2, "even"), (3, 2, 0)), ((2, "none"), (4, 2, 1))):
             for many in range(12):
                 for row in itertools.product((0, 1), repeat=many):
-                    self.same_as_by_place(form, ear, list(row))
+                    self.same_as_by_words(form, ear, list(row))
 
     def test_rows_of_several_sorts(self):
         source = random.Random(32)
         for form in SMALL + [(16, check) for check in CHECKS]:
             for ear in EARS + [(64, 33, 3), (64, 63, 0), (64, 1, 0)]:
                 for row in some_rows(source, ear[0]):
-                    self.same_as_by_place(form, ear, row)
+                    self.same_as_by_words(form, ear, row)
 
     def test_long_rows(self):
         source = random.Random(33)
         for row in ([source.randint(0, 1) for k in range(20000)], [0, 1] * 10000, [0] * 20000, [1, 0, 0] * 6666):
             for ear in ((3, 1, 0), (64, 33, 0), (64, 60, 3)):
-                self.same_as_by_place((16, "even"), ear, row)
+                self.same_as_by_words((16, "even"), ear, row)
 
     def test_the_told_list_is_the_askers_own(self):
         form, ear = (2, "none"), (5, 2, 1)
@@ -322,7 +291,7 @@ class Listeners(unittest.TestCase):
         before = []
         for many, level in enumerate(row, 1):
             told = listener.beat(level)
-            heard, begun = hear_by_place(form, ear, row[:many])
+            heard, begun = hear_by_words(form, ear, row[:many])
             self.assertEqual(heard[len(before):], [] if told is None else [told])
             self.assertEqual(listener.heard(), heard)
             self.assertIs(listener.at_rest(), begun is None)
@@ -366,8 +335,8 @@ class Listeners(unittest.TestCase):
         for many, (mine, yours) in enumerate(zip(*rows), 1):
             one.beat(mine)
             other.beat(yours)
-            self.assertEqual(one.heard(), hear_by_place(form, ear, rows[0][:many])[0])
-            self.assertEqual(other.heard(), hear_by_place(other_form, other_ear, rows[1][:many])[0])
+            self.assertEqual(one.heard(), hear_by_words(form, ear, rows[0][:many])[0])
+            self.assertEqual(other.heard(), hear_by_words(other_form, other_ear, rows[1][:many])[0])
 
     def test_two_of_one_form_and_ear(self):
         form, ear = (2, "none"), (3, 1, 0)

@@ -5,11 +5,12 @@ import itertools
 import random
 import unittest
 
+from by_words import CHECKS, some_speech
+
 from barewire.errors import NoLine, NoSpeech, WireError
 from barewire.forms import levels_of, size_of
 from barewire.lines import level_at, line_of, speech_of
 
-CHECKS = ("none", "even", "odd")
 SMALL = [(bits, check) for bits in (2, 3, 5) for check in CHECKS]
 LAST = 10 ** 18
 MOST_RATE = 10 ** 12
@@ -33,16 +34,6 @@ def changes_in(levels):
     """The changes of levels told one by one, the level ahead of them being 1."""
     ahead = [1] + levels[:-1]
     return [(moment, levels[moment]) for moment in range(len(levels)) if levels[moment] != ahead[moment]]
-
-
-def some_speech(source, form, rate, many, rests):
-    """A speech of so many words, with a rest out of rests ahead of each."""
-    told, free = [], 0
-    for number in range(many):
-        begin = free + source.choice(rests)
-        told.append((begin, source.randrange(1 << form[0])))
-        free = begin + size_of(form) * rate
-    return told
 
 
 class LineOf(unittest.TestCase):
