@@ -44,7 +44,7 @@ def found_rates(form, word, step, row):
     if bounds is None:
         return None
     least, most = step, MOST_TICKS
-    # There is a behind just where no least bound lies above a most one.
+    # There is a behind just where no least bound lies above a most one; at one and the same place none does.
     for low_place, low_beat in bounds[0]:
         for high_place, high_beat in bounds[1]:
             # So many rates are at most so many ticks.
@@ -53,8 +53,6 @@ def found_rates(form, word, step, row):
                 most = min(most, ticks // many)
             elif many < 0:
                 least = max(least, rounded_up(-ticks, -many))
-            elif ticks < 0:
-                return None
     return (least, most) if least <= most else None
 
 

@@ -30,16 +30,20 @@ def is_changes(thing):
     return isinstance(thing, list) and all(is_pair(pair) and is_whole(pair[0]) and is_level(pair[1]) for pair in thing)
 
 
-def changes_of(form, rate, speech):
-    """The line of what is known to be a speech."""
+def changes_from(begin, rate, levels):
+    """The changes of a line that has these levels from a begin on, and 1 ahead of and behind them."""
     told = []
     ahead = 1
-    for begin, word in speech:
-        for k, level in enumerate(levels_of(form, word)):
-            if level != ahead:
-                told.append((begin + k * rate, level))
-            ahead = level
+    for k, level in enumerate([*levels, 1]):
+        if level != ahead:
+            told.append((begin + k * rate, level))
+        ahead = level
     return told
+
+
+def changes_of(form, rate, speech):
+    """The line of what is known to be a speech."""
+    return [change for begin, word in speech for change in changes_from(begin, rate, levels_of(form, word))]
 
 
 def line_of(form, rate, speech):

@@ -91,9 +91,8 @@ def asked_late(form, ear, step, rate, level):
 
 def unlike_word(form, one, other):
     """A word whose levels at two places are unlike."""
-    bits = [0] + [1 << k for k in range(form[0])]
-    # Two ones are enough: one at a place itself, and one more to set the check.
-    words = [first | second for first in bits for second in bits]
+    # One bit is enough: it is unlike all other bits, and one of no bit, this bit and another one sets the check right.
+    words = [0] + [1 << k for k in range(form[0])]
     rows = [(levels_of(form, word), word) for word in words]
     return [word for levels, word in rows if levels[one] != levels[other]][0]
 

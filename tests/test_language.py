@@ -15,6 +15,11 @@ BARRED = re.compile(
     r"\b(type|typing|typing_extensions|enum|Enum|IntEnum|StrEnum|Flag|IntFlag|Generic|Protocol|ABC|ABCMeta|namedtuple"
     r"|NamedTuple|TypedDict|TYPE_CHECKING|abstractmethod)\b|dataclass|overload|contextmanager"
 )
+METHODS = set(
+    "append clear copy count endswith extend find get index insert isalnum isalpha isdigit islower isspace isupper items join"
+    " keys ljust lower lstrip partition pop remove replace reverse rfind rjust rpartition rsplit rstrip setdefault split"
+    " splitlines startswith strip update upper values zfill bit_length sort add discard".split()
+)
 BARRED_NODES = (
     ast.Import, ast.Global, ast.AsyncFunctionDef, ast.AsyncFor, ast.AsyncWith, ast.Await, ast.Div, ast.MatMult,
 )
@@ -81,6 +86,53 @@ class Language(unittest.TestCase):
             self.assertEqual(read - bound - BUILTINS, set(), name)
             allowed = re.compile(r"^(__[a-z]+__|[A-Za-z][A-Za-z0-9_]*)$")
             self.assertEqual([word for word in bound if not allowed.match(word)], [], name)
+
+    def test_methods_are_own_ones_or_listed(self):
+        own = {part.name for tree in self.trees.values() for node in ast.walk(tree) if isinstance(node, ast.ClassDef)
+               for part in node.body if isinstance(part, ast.FunctionDef)}
+        for name, tree in self.trees.items():
+            called = {node.func.attr for node in ast.walk(tree)
+                      if isinstance(node, ast.Call) and isinstance(node.func, ast.Attribute)}
+            self.assertEqual(called - own - METHODS, set(), name)
+
+    def test_no_local_name_hides_an_import_a_class_or_a_function(self):
+        for name, tree in self.trees.items():
+            top = {part.name for part in tree.body if isinstance(part, (ast.FunctionDef, ast.ClassDef))}
+            top |= {alias.name for part in tree.body if isinstance(part, ast.ImportFrom) for alias in part.names}
+            for node in ast.walk(tree):
+                if isinstance(node, ast.arg):
+                    self.assertNotIn(node.arg, top, name)
+                if isinstance(node, ast.Name) and not isinstance(node.ctx, ast.Load):
+                    self.assertNotIn(node.id, top, name)
+
+    def test_names_at_module_level_are_bound_once(self):
+        for name, tree in self.trees.items():
+            bound = [part.name for part in tree.body if isinstance(part, (ast.FunctionDef, ast.ClassDef))]
+            bound += [alias.name for part in tree.body if isinstance(part, ast.ImportFrom) for alias in part.names]
+            bound += [target.id for part in tree.body if isinstance(part, ast.Assign) for target in part.targets]
+            self.assertEqual(sorted(bound), sorted(set(bound)), name)
+
+    def test_imports_name_the_file_that_defines_and_are_used(self):
+        for name, tree in self.trees.items():
+            read = {node.id for node in ast.walk(tree) if isinstance(node, ast.Name)}
+            for node in tree.body:
+                if isinstance(node, ast.ImportFrom):
+                    source = self.trees[node.module.split(".")[1] + ".py"]
+                    defined = {part.name for part in source.body if isinstance(part, (ast.FunctionDef, ast.ClassDef))}
+                    defined |= {target.id for part in source.body if isinstance(part, ast.Assign) for target in part.targets}
+                    for alias in node.names:
+                        self.assertIn(alias.name, defined, name)
+                        self.assertIn(alias.name, read, name)
+                        self.assertIsNone(alias.asname)
+
+    def test_no_two_files_import_from_each_other(self):
+        above = {name: {node.module.split(".")[1] + ".py" for node in tree.body if isinstance(node, ast.ImportFrom)}
+                 for name, tree in self.trees.items()}
+        while above:
+            free = [name for name in above if not above[name] & set(above)]
+            self.assertTrue(free, above)
+            for name in free:
+                del above[name]
 
     def test_no_name_is_a_method_here_and_an_attribute_there(self):
         methods, attributes = set(), set()
