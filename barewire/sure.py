@@ -48,7 +48,7 @@ def sure_rates(form, ear, step):
 def sure_steps(form, ear, rate):
     """The least and the most sure step of a rate, or None."""
     sides = list(enumerate(spans(form, ear)))
-    leasts = [rounded_up(k * rate, low) for k, (low, high) in sides]
+    leasts = [rounded_up(k * rate, low) for k, (low, high) in sides[1:]]
     mosts = [(k + 1) * rate // high for k, (low, high) in sides]
     return stretch(leasts, mosts)
 
